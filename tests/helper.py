@@ -1,0 +1,222 @@
+"""What several tests need: sheets to tell, and the document's words followed step by step, apart from the program."""
+
+import zlib
+
+
+def seal(coded):
+    """The bytes and their CRC-32, lowest byte first."""
+    return list(coded) + list(zlib.crc32(bytes(coded)).to_bytes(4, "little"))
+
+
+def frame(kinds, wide, high, e, levels, tiles):
+    """A sheet's bytes around any tiles' codes, with a right table and a right CRC-32."""
+    out = [84, 73, 76, 83, kinds, wide - 1, high - 1, e, levels]
+    for told in tiles:
+        out += list(len(told).to_bytes(3, "little"))
+    for told in tiles:
+        out += told
+    return seal(out)
+
+
+def spread(count, top, seed):
+    """Numbers from 0 to top that look thrown together, the same ones each time."""
+    out = []
+    state = seed * 2654435761 + 12345
+    for _ in range(count):
+        state = (state * 6364136223846793005 + 1442695040888963407) % 2 ** 64
+        out.append((state >> 33) % (top + 1))
+    return out
+
+
+def smooth(kinds, wide, high):
+    """A sheet that rises slowly to the right and downwards, a little otherwise in each kind."""
+    return [1000 * (kind + 1) + 3 * x + 2 * y + (x * y) // 16 + kind
+            for y in range(high) for x in range(wide) for kind in range(kinds)]
+
+
+def wild(kinds, wide, high):
+    return spread(kinds * wide * high, 65535, kinds + 5 * wide + 1031 * high)
+
+
+def gentle(kinds, wide, high):
+    """Slowly rising, with small unevenness of both signs."""
+    noise = spread(kinds * wide * high, 40, 7)
+    return [base + jump for base, jump in zip(smooth(kinds, wide, high), noise)]
+
+
+def halve(x):
+    """A row halved, point by point as "A row halved" says it."""
+    n = len(x)
+    if n == 1:
+        return list(x)
+
+    def at(i):
+        return x[1] if i == -1 else x[n - 2] if i == n else x[i]
+
+    d = []
+    while 2 * len(d) + 1 < n:
+        i = len(d)
+        d.append(at(2 * i + 1) - (at(2 * i) + at(2 * i + 2)) // 2)
+    s = []
+    while 2 * len(s) < n:
+        i = len(s)
+        s.append(x[2 * i] + (d[max(i - 1, 0)] + d[min(i, len(d) - 1)] + 2) // 4)
+    return s + d
+
+
+def halve_in_place(grid, columns, rows):
+    """The corner of a grid halved where it lies: all its rows, then all its columns."""
+    for y in range(rows):
+        grid[y][:columns] = halve(grid[y][:columns])
+    for x in range(columns):
+        column = halve([grid[y][x] for y in range(rows)])
+        for y in range(rows):
+            grid[y][x] = column[y]
+
+
+def bands(grid, levels):
+    """The bands of one kind's grid, each a list of numbers; the grid is halved."""
+    sizes = [(len(grid[0]), len(grid))]
+    for _ in range(levels):
+        halve_in_place(grid, *sizes[-1])
+        sizes.append((-(-sizes[-1][0] // 2), -(-sizes[-1][1] // 2)))
+
+    def area(left, right, top, bottom):
+        return [grid[y][x] for y in range(top, bottom) for x in range(left, right)]
+
+    out = [area(0, sizes[-1][0], 0, sizes[-1][1])]
+    for level in range(levels - 1, -1, -1):
+        (w, h), (cw, ch) = sizes[level], sizes[level + 1]
+        out += [area(cw, w, 0, ch), area(0, cw, ch, h), area(cw, w, ch, h)]
+    return out
+
+
+def number_bits(z, k, long_way=False):
+    """One number as a text of 0 and 1."""
+    m = 2 * z if z >= 0 else -2 * z - 1
+    q = m // 2 ** k
+    if q < 24 and not long_way:
+        low = bin(m % 2 ** k)[2:].zfill(k) if k else ""
+        return "1" * q + "0" + low
+    return "1" * 24 + bin(m)[2:].zfill(24)
+
+
+def band_bits(band, long_places=()):
+    """A band as a text of 0 and 1; at the long places the long way is taken, whether it must be or not."""
+    a, c, out = 16, 1, ""
+    for place, z in enumerate(band):
+        k = next(k for k in range(40) if c * 2 ** k >= a)
+        out += number_bits(z, k, place in long_places)
+        a, c = a + abs(z), c + 1
+        if c == 64:
+            a, c = a // 2, c // 2
+    return out
+
+
+def packed(bits):
+    bits += "0" * (-len(bits) % 8)
+    return [int(bits[i:i + 8], 2) for i in range(0, len(bits), 8)]
+
+
+def tile_bands(kinds, wide, high, levels, numbers):
+    """All bands of a tile, kind by kind."""
+    points = [list(numbers[i:i + kinds]) for i in range(0, len(numbers), kinds)]
+    if kinds >= 3:
+        points = [[(p[0] + 2 * p[1] + p[2]) // 4, p[2] - p[1], p[0] - p[1]] + p[3:] for p in points]
+    out = []
+    for kind in range(kinds):
+        out += bands([[points[y * wide + x][kind] for x in range(wide)] for y in range(high)], levels)
+    return out
+
+
+def short(kinds, wide, high, levels, numbers):
+    """A tile told in bits, whether that is its code or not; the numbers may be out of range."""
+    return [1] + packed("".join(band_bits(band) for band in tile_bands(kinds, wide, high, levels, numbers)))
+
+
+def plain(numbers):
+    """A tile told by its numbers themselves, whether that is its code or not."""
+    return [0] + [byte for number in numbers for byte in (number % 256, number // 256)]
+
+
+def tile_parts(kinds, wide, high, e, numbers):
+    """(width, height, numbers) of each tile of a sheet."""
+    side, out = 2 ** e, []
+    for top in range(0, high, side):
+        for left in range(0, wide, side):
+            right, bottom = min(left + side, wide), min(top + side, high)
+            out.append((right - left, bottom - top,
+                        [numbers[(y * wide + x) * kinds + kind]
+                         for y in range(top, bottom) for x in range(left, right) for kind in range(kinds)]))
+    return out
+
+
+def tiles(kinds, wide, high, e, levels, numbers):
+    """The tiles' codes of a sheet."""
+    out = []
+    for width, height, part in tile_parts(kinds, wide, high, e, numbers):
+        one, other = short(kinds, width, height, levels, part), plain(part)
+        out.append(one if len(one) < len(other) else other)
+    return out
+
+
+def code(kinds, wide, high, e, levels, numbers):
+    """A sheet's code."""
+    return frame(kinds, wide, high, e, levels, tiles(kinds, wide, high, e, levels, numbers))
+
+
+def ordinary_sheets():
+    """Sheets of all kinds, sides and levels, of one tile and of several, smooth and wild: what code is handed."""
+    for kinds in (1, 2, 3, 4):
+        for e in (4, 5, 6, 7, 8):
+            for levels in (0, 1, 2, 3, 4, 5):
+                for wide, high in ((3, 7), (18, 21)):
+                    yield kinds, wide, high, e, levels, gentle(kinds, wide, high)
+    for wide, high in ((1, 1), (1, 18), (19, 1), (2, 2), (5, 3), (16, 16), (17, 33), (40, 20)):
+        for kinds, levels in ((1, 5), (2, 1), (3, 3), (4, 2)):
+            for made in (smooth, gentle, wild):
+                yield kinds, wide, high, 4, levels, made(kinds, wide, high)
+    for wide, high, e in ((33, 16, 4), (65, 2, 6), (2, 129, 7), (31, 47, 5)):
+        yield 1, wide, high, e, 2, gentle(1, wide, high)
+
+
+def thin_sheets():
+    """One point, one row, one column, and levels beyond what there is to halve."""
+    for wide, high in ((1, 1), (256, 1), (1, 256), (255, 1), (1, 255), (2, 1), (1, 2), (3, 1), (1, 3)):
+        for levels in (0, 1, 5):
+            for e in (4, 8):
+                yield 1, wide, high, e, levels, gentle(1, wide, high)
+                yield 4, wide, high, e, levels, gentle(4, wide, high)
+    for levels in (1, 2, 3, 4, 5):
+        yield 3, 3, 2, 4, levels, gentle(3, 3, 2)
+        yield 1, 16, 17, 4, levels, gentle(1, 16, 17)
+
+
+def harsh_sheets():
+    """The lowest and the highest number side by side."""
+    for kinds in (1, 2, 3, 4):
+        for levels in (0, 1, 5):
+            board = [65535 * ((x + y + kind) % 2) for y in range(20) for x in range(20) for kind in range(kinds)]
+            lonely = [0] * (kinds * 400)
+            lonely[kinds * 210] = 65535
+            for numbers in (board, lonely, [65535 - number for number in lonely]):
+                yield kinds, 20, 20, 5, levels, numbers
+
+
+def long_bands():
+    """Bands around and beyond 64 numbers; in the last one a is halved down to 0."""
+    for wide in (63, 64, 65, 66, 95, 96, 97, 200):
+        for top in (1, 9, 300, 5000):
+            yield 1, wide, 1, 8, 0, spread(wide, top, wide + top)
+    yield 1, 256, 2, 8, 0, [0] * 400 + [3, 0, 70] + [0] * 109
+
+
+def close_sheets():
+    """Sheets of one tile whose two ways of being told are about as long."""
+    for top in range(10, 1200, 9):
+        yield 1, 4, 3, 4, 2, spread(12, top, top)
+
+
+def all_sheets():
+    for made in (ordinary_sheets, thin_sheets, harsh_sheets, long_bands, close_sheets):
+        yield from made()

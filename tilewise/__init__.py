@@ -1,0 +1,1 @@
+"""Tiles: sheets told in few bytes, read back to the bit."""

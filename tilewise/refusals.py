@@ -1,0 +1,6 @@
+"""What is raised where bytes turn out not to be a code."""
+
+
+# The calls answer it as -2.
+class NotACode(Exception):
+    pass
