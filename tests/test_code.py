@@ -24,7 +24,21 @@ def told_tiles(answered, many):
 
 
 class ByHand(unittest.TestCase):
-    """Bytes worked out from the document with pencil and paper."""
+    """Tiles' bytes worked out by hand from the document, as the remarks show.
+
+    The written-out CRC-32 bytes are not by hand: they are held against the document's own steps and zlib below.
+    """
+
+    def test_crc_by_the_documents_steps(self):
+        for coded in (code(1, 1, 1, 4, 0, [0]), code(1, 2, 2, 4, 1, [10, 12, 14, 20]), code(3, 1, 1, 8, 5, [10, 20, 33])):
+            c = 2 ** 32 - 1
+            for byte in coded[1:-4]:
+                c ^= byte
+                for _ in range(8):
+                    c = c // 2 ^ 0xEDB88320 if c % 2 else c // 2
+            c ^= 2 ** 32 - 1
+            self.assertEqual(coded[-4:], [c % 256, c // 256 % 256, c // 65536 % 256, c // 16777216])
+            self.assertEqual(coded[1:], helper.seal(coded[1:-4]))
 
     def test_one_point_of_zero(self):
         # k is 4: a bit 0 and four more, 00000.
