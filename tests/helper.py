@@ -165,6 +165,14 @@ def code(kinds, wide, high, e, levels, numbers):
     return frame(kinds, wide, high, e, levels, tiles(kinds, wide, high, e, levels, numbers))
 
 
+def tile_answers(kinds, wide, high, e, numbers):
+    """What tile is to answer for each tile of a sheet: 0, x, y, width, height, its numbers."""
+    side = 2 ** e
+    across = -(-wide // side)
+    return [[0, side * (t % across), side * (t // across), width, height] + part
+            for t, (width, height, part) in enumerate(tile_parts(kinds, wide, high, e, numbers))]
+
+
 def ordinary_sheets():
     """Sheets of all kinds, sides and levels, of one tile and of several, smooth and wild: what code is handed."""
     for kinds in (1, 2, 3, 4):
@@ -220,3 +228,67 @@ def close_sheets():
 def all_sheets():
     for made in (ordinary_sheets, thin_sheets, harsh_sheets, long_bands, close_sheets):
         yield from made()
+
+
+# Codes of a sheet of one tile and of a sheet of several, and whether it is of several.
+CODES = ((code(1, 2, 2, 4, 1, [10, 12, 14, 20]), False), (code(3, 33, 18, 4, 2, gentle(3, 33, 18)), True))
+
+
+def wrong_crcs(coded):
+    """A code with each of the last four bytes changed, and with all of them."""
+    for place in range(len(coded) - 4, len(coded)):
+        yield coded[:place] + [coded[place] ^ 1] + coded[place + 1:]
+    yield coded[:-4] + [255 - byte for byte in coded[-4:]]
+    yield coded[:-4] + coded[-4:][::-1]
+
+
+def changed(coded, place, value):
+    """A byte changed, the CRC-32 made right again."""
+    return seal(coded[:place] + [value] + coded[place + 1:-4])
+
+
+def wrong_lengths(coded, many):
+    """A table that doesn't say how long the tiles' codes are; the CRC-32 is right."""
+    for start in range(9, 9 + 3 * many, 3):
+        length = int.from_bytes(bytes(coded[start:start + 3]), "little")
+        for other in (0, length - 1, length + 1, length + 256, length + 65536, 16777215):
+            yield (f"{other} for {length} in the table",
+                   seal(coded[:start] + list(other.to_bytes(3, "little")) + coded[start + 3:-4]))
+
+
+def wrong_frames():
+    """Why, and bytes that don't begin as a code does, or of which there are too few or too many."""
+    yield "no bytes", []
+    yield "one byte", [84]
+    for coded, several in CODES:
+        for place in range(4):
+            for value in (0, coded[place] - 1, coded[place] + 1, coded[place] ^ 32, 255):
+                yield f"byte {place} is {value}", changed(coded, place, value)
+        for place, value in ((4, 0), (4, 5), (4, 255), (7, 3), (7, 0), (7, 9), (7, 255), (8, 6), (8, 255)):
+            yield f"byte {place} is {value}", changed(coded, place, value)
+        yield from wrong_lengths(coded, 6 if several else 1)
+        yield "a byte too many", coded + [0]
+        yield "a byte too many, sealed", seal(coded[:-4] + [0])
+        yield "a byte missing", coded[:-1]
+        yield "a byte missing, sealed", seal(coded[:-5])
+        yield "no CRC", coded[:-4]
+        for length in range(9 + 3 * (6 if several else 1) + 4):
+            yield f"{length} bytes alone", coded[:length]
+            yield f"{length} bytes alone, sealed", seal(coded[:length])
+    yield "a length of 0 and no byte", frame(1, 1, 1, 4, 0, [[]])
+    yield "a length of 0 and no byte for the second tile", frame(1, 17, 1, 4, 0, [[1, 0], []])
+    yield "a length of 0 and no byte for the first tile", frame(1, 17, 1, 4, 0, [[], [1, 0]])
+    for many in range(256):
+        yield f"a table of {many} for 256 tiles", seal([84, 73, 76, 83, 1, 255, 255, 4, 0] + [1, 0, 0] * many)
+
+
+def loose_frames():
+    """Bytes that begin as a code does, but are none: wrong CRCs, and tiles' bytes that are no code."""
+    for coded, _ in CODES:
+        yield from wrong_crcs(coded)
+        for place in range(9 + 3 * 6 if coded[5] == 32 else 12, len(coded) - 4, 7):
+            yield coded[:place] + [coded[place] ^ 255] + coded[place + 1:]
+    for kinds in (1, 2, 3, 4):
+        for told in ([[0], [1]], [[2], [255, 255]], [[7] * 300, [0, 0]], [[0] * 70000, [1, 255]]):
+            yield frame(kinds, 17, 9, 4, 5, told)
+            yield frame(kinds, 9, 33, 5, 0, told)[:-1] + [9]

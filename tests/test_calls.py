@@ -3,7 +3,7 @@
 import unittest
 
 from tests import helper
-from tilewise.sheets import code, read
+from tilewise.sheets import code, head, read, tile
 
 
 def forbidden(self, *args, **kwargs):
@@ -21,46 +21,71 @@ SHEETS = ((1, 1, 1, 4, 0, [9]), (2, 20, 18, 4, 3, helper.gentle(2, 20, 18)), (3,
           (4, 33, 3, 5, 1, helper.smooth(4, 33, 3)))
 
 
+def asked(listed):
+    """Of each call that is asked, its name and the answer, over all SHEETS; lists are handed in as listed makes them."""
+    out = []
+    for kinds, wide, high, e, levels, numbers in SHEETS:
+        coded = helper.code(kinds, wide, high, e, levels, numbers)
+        out.append(("code", code(kinds, wide, high, e, levels, listed(numbers))))
+        out.append(("read", read(listed(coded))))
+        out.append(("head", head(listed(coded))))
+        for t in (0, len(helper.tile_parts(kinds, wide, high, e, numbers)) - 1):
+            out.append(("tile", tile(t, listed(coded))))
+    return out
+
+
+def refused(listed):
+    """Of each call that is refused, its name and the answer."""
+    coded = helper.code(*SHEETS[1])
+    spoiled = helper.frame(1, 1, 1, 4, 0, [[1, 1]])
+    out = [("code", code(1, 2, 2, 4, 0, listed([1, 2, 3]))), ("code", code(1, 2, 2, 4, 0, listed([1, 2, 3, 65536])))]
+    for call in (read, head):
+        out += [(call.__name__, call(listed(wrong))) for wrong in ([], [256], [84, 73, 76, 83, 1], coded[:-5])]
+    out.append(("read", read(listed(spoiled))))
+    out += [("tile", tile(t, listed(wrong))) for t, wrong in ((0, [300]), (0, []), (-1, coded), (4, coded), (0, spoiled))]
+    return out
+
+
 class Calls(unittest.TestCase):
     def test_what_is_handed_in_stays(self):
-        for kinds, wide, high, e, levels, numbers in SHEETS:
-            expected = helper.code(kinds, wide, high, e, levels, numbers)
-            self.assertEqual(code(kinds, wide, high, e, levels, Untouchable(numbers)), [len(expected)] + expected)
-            self.assertEqual(read(Untouchable(expected)), [0, kinds, wide, high] + numbers)
-            kept_numbers, kept_code = list(numbers), list(expected)
-            code(kinds, wide, high, e, levels, kept_numbers)
-            read(kept_code)
-            self.assertEqual((kept_numbers, kept_code), (numbers, expected))
+        for made in (asked, refused):
+            kept = []
 
-    def test_what_is_refused_stays(self):
-        self.assertEqual(code(1, 2, 2, 4, 0, Untouchable([1, 2, 3])), [-8])
-        self.assertEqual(code(1, 2, 2, 4, 0, Untouchable([1, 2, 3, 65536])), [-8])
-        self.assertEqual(read(Untouchable([84, 73, 76, 83, 1])), [-2])
-        self.assertEqual(read(Untouchable(helper.frame(1, 1, 1, 4, 0, [[1, 1]]))), [-2])
+            def keep(numbers):
+                kept.append((list(numbers), list(numbers)))
+                return kept[-1][0]
+
+            self.assertEqual(made(Untouchable), made(keep))
+            for handed, copied in kept:
+                self.assertEqual(handed, copied)
 
     def test_second_call_answers_as_the_first(self):
-        for kinds, wide, high, e, levels, numbers in SHEETS:
-            first = code(kinds, wide, high, e, levels, numbers)
-            coded = first[1:]
-            heard = read(coded)
-            kept = list(first), list(heard)
-            # What was answered belongs to the one who asked: changing it must change no later answer.
-            first.clear()
-            heard.clear()
-            self.assertEqual(code(1, 1, 1, 4, 0, [-1]), [-8])
-            self.assertEqual(read([1, 2, 3]), [-2])
-            self.assertEqual((code(kinds, wide, high, e, levels, numbers), read(coded)), kept)
+        first = asked(list)
+        refusals = refused(list)
+        kept = [list(answer) for _, answer in first]
+        # What was answered belongs to the one who asked: changing it must change no later answer.
+        for _, answer in first:
+            answer.clear()
+        self.assertEqual([answer for _, answer in asked(list)], kept)
+        self.assertEqual(refused(list), refusals)
+        self.assertEqual([answer for _, answer in reversed(asked(list))], kept[::-1])
 
     def test_answers_are_lists_of_whole_numbers(self):
-        for kinds, wide, high, e, levels, numbers in SHEETS:
-            told = code(kinds, wide, high, e, levels, numbers)
-            for answered in (told, read(told[1:]), code(0, 0, 0, 0, 0, []), read([])):
-                self.assertIs(type(answered), list)
-                self.assertEqual({type(number) for number in answered}, {int})
+        for name, answer in asked(list) + refused(list):
+            with self.subTest(name):
+                self.assertIs(type(answer), list)
+                self.assertEqual({type(number) for number in answer}, {int})
+
+    def test_what_is_asked_is_answered_and_what_is_refused_is_not(self):
+        self.assertEqual([name for name, answer in asked(list) if answer[0] < 0], [])
+        for name, answer in refused(list):
+            self.assertIn(answer, ([-8], [-2]), name)
 
     def test_names_of_the_arguments(self):
-        coded = code(kinds=1, wide=1, high=1, e=4, levels=0, numbers=[0])
-        self.assertEqual(read(coded=coded[1:]), [0, 1, 1, 1, 0])
+        coded = code(kinds=1, wide=1, high=1, e=4, levels=0, numbers=[0])[1:]
+        self.assertEqual(read(coded=coded), [0, 1, 1, 1, 0])
+        self.assertEqual(head(coded=coded), [1, 1, 1, 1, 4, 0])
+        self.assertEqual(tile(t=0, coded=coded), [0, 0, 0, 1, 1, 0])
 
 
 if __name__ == "__main__":

@@ -50,6 +50,17 @@ class WrongFrame(unittest.TestCase):
     def refused(self, coded):
         self.assertEqual(read(coded), [-2])
 
+    def test_all_wrong_frames(self):
+        for why, coded in helper.wrong_frames():
+            with self.subTest(why):
+                self.refused(coded)
+
+    def test_wrong_crc(self):
+        for coded, several in helper.CODES:
+            self.assertEqual(read(coded)[0], 0)
+            for wrong in helper.wrong_crcs(coded):
+                self.refused(wrong)
+
     def test_none_and_too_few(self):
         numbers = helper.gentle(1, 20, 3)
         for coded in (FOUR_POINTS, helper.code(1, 20, 3, 4, 1, numbers)):
@@ -132,10 +143,16 @@ class WrongFrame(unittest.TestCase):
 
 
 class WrongTile(unittest.TestCase):
-    """The table and the CRC-32 are right here: a tile alone is not as the document tells it."""
+    """The table and the CRC-32 are right here: a tile alone is not as the document tells it.
 
-    def refused(self, kinds, wide, high, e, levels, tiles):
+    The calls that look at tiles one by one are held to the same, each by its own refused and heard.
+    """
+
+    def refused(self, kinds, wide, high, e, levels, tiles, place=0):
         self.assertEqual(read(helper.frame(kinds, wide, high, e, levels, tiles)), [-2])
+
+    def heard(self, kinds, wide, high, e, levels, tiles, numbers):
+        self.assertEqual(read(helper.frame(kinds, wide, high, e, levels, tiles)), [0, kinds, wide, high] + numbers)
 
     def test_plain_where_the_other_way_is_fewer(self):
         for kinds in (1, 2, 3, 4):
@@ -159,7 +176,7 @@ class WrongTile(unittest.TestCase):
             if len(short) == len(plain):
                 alike += 1
                 self.refused(1, 4, 3, 4, 2, [short])
-                self.assertEqual(read(helper.frame(1, 4, 3, 4, 2, [plain])), [0, 1, 4, 3] + numbers)
+                self.heard(1, 4, 3, 4, 2, [plain], numbers)
         self.assertGreater(alike, 3)
 
     def test_missing_bits_that_are_not_0(self):
@@ -174,14 +191,14 @@ class WrongTile(unittest.TestCase):
         self.refused(1, 2, 2, 4, 1, [[1, 177, 12]])
         self.refused(1, 2, 2, 4, 1, [[1]])
         wild = helper.plain(helper.wild(1, 3, 3))
-        self.assertEqual(read(helper.frame(1, 3, 3, 4, 0, [wild]))[0], 0)
+        self.heard(1, 3, 3, 4, 0, [wild], helper.wild(1, 3, 3))
         for wrong in (wild[:-1], wild[:-2], wild + [0], wild + [0, 0], [0], wild[:2]):
             self.refused(1, 3, 3, 4, 0, [wrong])
 
     def test_number_told_in_full_that_need_not_be(self):
         numbers = [0] * 30 + [1, 2]
         right = [1] + helper.packed(helper.band_bits(numbers))
-        self.assertEqual(read(helper.frame(1, 32, 1, 5, 0, [right])), [0, 1, 32, 1] + numbers)
+        self.heard(1, 32, 1, 5, 0, [right], numbers)
         for place in (0, 5, 30, 31):
             wrong = [1] + helper.packed(helper.band_bits(numbers, (place,)))
             self.assertLess(len(wrong), 65)
@@ -210,7 +227,7 @@ class WrongTile(unittest.TestCase):
                 for place in (0, kinds * 100 + kinds - 1):
                     numbers = [65535] * (kinds * 256)
                     right = helper.short(kinds, 16, 16, levels, numbers)
-                    self.assertEqual(read(helper.frame(kinds, 16, 16, 4, levels, [right]))[0], 0)
+                    self.heard(kinds, 16, 16, 4, levels, [right], numbers)
                     numbers[place] = 65536
                     wrong = helper.short(kinds, 16, 16, levels, numbers)
                     self.assertLess(len(wrong), 512 * kinds)
@@ -225,17 +242,11 @@ class WrongTile(unittest.TestCase):
     def test_one_wrong_tile_among_right_ones(self):
         numbers = helper.gentle(2, 33, 20)
         right = helper.tiles(2, 33, 20, 4, 2, numbers)
-        self.assertEqual(read(helper.frame(2, 33, 20, 4, 2, right)), [0, 2, 33, 20] + numbers)
+        self.heard(2, 33, 20, 4, 2, right, numbers)
         for place in range(len(right)):
             wrong = list(right)
             wrong[place] = wrong[place] + [0]
-            self.refused(2, 33, 20, 4, 2, wrong)
-
-    def test_code_of_another_number_of_levels(self):
-        numbers = helper.gentle(1, 16, 16)
-        told = helper.tiles(1, 16, 16, 4, 5, numbers)
-        # Bits of five levels may be heard by one, but then they are other numbers, or none.
-        self.assertNotEqual(read(helper.frame(1, 16, 16, 4, 1, told))[4:], numbers)
+            self.refused(2, 33, 20, 4, 2, wrong, place)
 
 
 class JustOneCode(unittest.TestCase):
@@ -256,6 +267,12 @@ class JustOneCode(unittest.TestCase):
             self.assertEqual(answered[0], 0)
             again = helper.code(answered[1], answered[2], answered[3], coded[7], coded[8], answered[4:])
             self.assertEqual(again, coded)
+
+    def test_code_of_another_number_of_levels(self):
+        numbers = helper.gentle(1, 16, 16)
+        told = helper.tiles(1, 16, 16, 4, 5, numbers)
+        # Bits of five levels may be heard by one, but then they are other numbers, or none.
+        self.assertNotEqual(read(helper.frame(1, 16, 16, 4, 1, told))[4:], numbers)
 
     def test_codes_of_different_sheets_are_different(self):
         seen = {}

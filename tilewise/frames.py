@@ -28,6 +28,16 @@ class Head:
     def places(self):
         return tile_places(self.wide, self.high, self.e)
 
+    def answer(self):
+        return [self.kinds, self.wide, self.high, self.e, self.levels]
+
+
+# A code taken apart: its head, and each tile's code as its bytes stand there.
+class Parts:
+    def __init__(self, head, codes):
+        self.head = head
+        self.codes = codes
+
 
 def lowest_first(number, many):
     return [(number >> (8 * i)) & 255 for i in range(many)]
@@ -100,3 +110,8 @@ def tile_codes_of(coded, head):
         codes.append(coded[start:start + length])
         start += length
     return codes
+
+
+def opened(coded):
+    head = head_of(coded)
+    return Parts(head, tile_codes_of(coded, head))

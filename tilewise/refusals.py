@@ -1,4 +1,9 @@
-"""What is raised where bytes turn out not to be a code."""
+"""What is raised where a call is refused."""
+
+
+# The calls answer it as -8.
+class OutOfRange(Exception):
+    pass
 
 
 # The calls answer it as -2.

@@ -1,58 +1,94 @@
-"""The calls: whole sheets told in bytes, and read back from them."""
+"""The calls: sheets told in bytes, and read back from them whole or tile by tile."""
 
-from tilewise.frames import Head, crc_is_right, framed, head_of, tile_codes_of
+from tilewise.frames import Head, crc_is_right, framed, opened
 from tilewise.layout import lay_in, taken_out
-from tilewise.refusals import NotACode
-from tilewise.tiles import numbers_in_range, tile_code, tile_numbers
+from tilewise.ranges import check_bytes, numbers_in_range
+from tilewise.refusals import NotACode, OutOfRange
+from tilewise.tiles import tile_code, tile_numbers
 
-MOST_BYTES = 1048576
 
-
-def sheet_fits(head, numbers):
+def sheet_fits(asked, numbers):
     # The range comes first: without it the product means nothing.
-    if not head.in_range() or len(numbers) != head.kinds * head.wide * head.high:
+    if not asked.in_range() or len(numbers) != asked.kinds * asked.wide * asked.high:
         return False
     return numbers_in_range(numbers)
 
 
 def code(kinds, wide, high, e, levels, numbers):
-    head = Head(kinds, wide, high, e, levels)
-    if not sheet_fits(head, numbers):
+    asked = Head(kinds, wide, high, e, levels)
+    if not sheet_fits(asked, numbers):
         return [-8]
     codes = []
-    for place in head.places():
+    for place in asked.places():
         taken = taken_out(numbers, place, kinds, wide)
         codes.append(tile_code(taken, kinds, place.width, place.height, levels))
-    coded = framed(head, codes)
+    coded = framed(asked, codes)
     return [len(coded)] + coded
 
 
-def bytes_fit(coded):
-    if len(coded) > MOST_BYTES:
-        return False
-    return len(coded) == 0 or (min(coded) >= 0 and max(coded) <= 255)
+def numbers_at(parts, place, one):
+    return tile_numbers(one, parts.head.kinds, place.width, place.height, parts.head.levels)
 
 
-def sheet_numbers(head, codes):
-    numbers = [0] * (head.kinds * head.wide * head.high)
-    for place, one in zip(head.places(), codes):
-        heard = tile_numbers(one, head.kinds, place.width, place.height, head.levels)
-        lay_in(numbers, place, head.kinds, head.wide, heard)
+def sheet_numbers(parts):
+    kinds = parts.head.kinds
+    wide = parts.head.wide
+    numbers = [0] * (kinds * wide * parts.head.high)
+    for place, one in zip(parts.head.places(), parts.codes):
+        lay_in(numbers, place, kinds, wide, numbers_at(parts, place, one))
     return numbers
 
 
-def read_sheet(coded):
-    head = head_of(coded)
-    codes = tile_codes_of(coded, head)
+def read_answer(coded):
+    check_bytes(coded)
+    parts = opened(coded)
     if not crc_is_right(coded):
         raise NotACode()
-    return [0, head.kinds, head.wide, head.high] + sheet_numbers(head, codes)
+    return [0, parts.head.kinds, parts.head.wide, parts.head.high] + sheet_numbers(parts)
 
 
 def read(coded):
-    if not bytes_fit(coded):
-        return [-8]
     try:
-        return read_sheet(coded)
+        return read_answer(coded)
+    except OutOfRange:
+        return [-8]
+    except NotACode:
+        return [-2]
+
+
+def head_answer(coded):
+    check_bytes(coded)
+    parts = opened(coded)
+    return [len(parts.codes)] + parts.head.answer()
+
+
+def head(coded):
+    try:
+        return head_answer(coded)
+    except OutOfRange:
+        return [-8]
+    except NotACode:
+        return [-2]
+
+
+def check_tile(t, parts):
+    if not 0 <= t < len(parts.codes):
+        raise OutOfRange()
+
+
+def tile_answer(t, coded):
+    check_bytes(coded)
+    # Bytes that aren't a code are refused ahead of t: how many tiles there are stands in them.
+    parts = opened(coded)
+    check_tile(t, parts)
+    place = parts.head.places()[t]
+    return [0, place.x, place.y, place.width, place.height] + numbers_at(parts, place, parts.codes[t])
+
+
+def tile(t, coded):
+    try:
+        return tile_answer(t, coded)
+    except OutOfRange:
+        return [-8]
     except NotACode:
         return [-2]

@@ -2,14 +2,9 @@
 
 from tilewise.bands import band_lengths, bands_of, cut_rows, flat, rows_of
 from tilewise.mixing import mixed, unmixed
+from tilewise.ranges import numbers_in_range
 from tilewise.refusals import NotACode
 from tilewise.telling import BitReader, BitWriter, hear_band, tell_band
-
-HIGHEST = 65535
-
-
-def numbers_in_range(numbers):
-    return min(numbers) >= 0 and max(numbers) <= HIGHEST
 
 
 def plain_code(numbers):
