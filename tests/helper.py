@@ -64,6 +64,19 @@ def halve(x):
     return s + d
 
 
+def whole(row):
+    """The row that this one is when it's halved, point by point."""
+    n = len(row)
+    if n == 1:
+        return list(row)
+    s, d = row[:(n + 1) // 2], row[(n + 1) // 2:]
+    x = {2 * i: s[i] - (d[max(i - 1, 0)] + d[min(i, len(d) - 1)] + 2) // 4 for i in range(len(s))}
+    x[n] = x.get(n, x.get(n - 2))
+    for i in range(len(d)):
+        x[2 * i + 1] = d[i] + (x[2 * i] + x[2 * i + 2]) // 2
+    return [x[i] for i in range(n)]
+
+
 def halve_in_place(grid, columns, rows):
     """The corner of a grid halved where it lies: all its rows, then all its columns."""
     for y in range(rows):
@@ -74,12 +87,28 @@ def halve_in_place(grid, columns, rows):
             grid[y][x] = column[y]
 
 
-def bands(grid, levels):
-    """The bands of one kind's grid, each a list of numbers; the grid is halved."""
+def whole_in_place(grid, columns, rows):
+    """A halved corner made whole where it lies."""
+    for x in range(columns):
+        column = whole([grid[y][x] for y in range(rows)])
+        for y in range(rows):
+            grid[y][x] = column[y]
+    for y in range(rows):
+        grid[y][:columns] = whole(grid[y][:columns])
+
+
+def halve_often(grid, levels):
+    """The grid halved where it lies; the corners' widths and heights, from the whole grid on."""
     sizes = [(len(grid[0]), len(grid))]
     for _ in range(levels):
         halve_in_place(grid, *sizes[-1])
         sizes.append((-(-sizes[-1][0] // 2), -(-sizes[-1][1] // 2)))
+    return sizes
+
+
+def bands(grid, levels):
+    """The bands of one kind's grid, each a list of numbers; the grid is halved."""
+    sizes = halve_often(grid, levels)
 
     def area(left, right, top, bottom):
         return [grid[y][x] for y in range(top, bottom) for x in range(left, right)]
@@ -118,15 +147,17 @@ def packed(bits):
     return [int(bits[i:i + 8], 2) for i in range(0, len(bits), 8)]
 
 
-def tile_bands(kinds, wide, high, levels, numbers):
-    """All bands of a tile, kind by kind."""
+def mixed_grids(kinds, wide, high, numbers):
+    """A tile's kinds mixed, a grid of rows for each."""
     points = [list(numbers[i:i + kinds]) for i in range(0, len(numbers), kinds)]
     if kinds >= 3:
         points = [[(p[0] + 2 * p[1] + p[2]) // 4, p[2] - p[1], p[0] - p[1]] + p[3:] for p in points]
-    out = []
-    for kind in range(kinds):
-        out += bands([[points[y * wide + x][kind] for x in range(wide)] for y in range(high)], levels)
-    return out
+    return [[[points[y * wide + x][kind] for x in range(wide)] for y in range(high)] for kind in range(kinds)]
+
+
+def tile_bands(kinds, wide, high, levels, numbers):
+    """All bands of a tile, kind by kind."""
+    return [band for grid in mixed_grids(kinds, wide, high, numbers) for band in bands(grid, levels)]
 
 
 def short(kinds, wide, high, levels, numbers):
@@ -171,6 +202,51 @@ def tile_answers(kinds, wide, high, e, numbers):
     across = -(-wide // side)
     return [[0, side * (t % across), side * (t // across), width, height] + part
             for t, (width, height, part) in enumerate(tile_parts(kinds, wide, high, e, numbers))]
+
+
+def small_tile(kinds, wide, high, levels, l, numbers):
+    """(width, height, numbers) of a tile made small: halved, then undone but for the first l halvings."""
+    grids = mixed_grids(kinds, wide, high, numbers)
+    for grid in grids:
+        sizes = halve_often(grid, levels)
+        for level in range(levels - 1, l - 1, -1):
+            whole_in_place(grid, *sizes[level])
+    width, height = sizes[l]
+    out = []
+    for y in range(height):
+        for x in range(width):
+            point = [grid[y][x] for grid in grids]
+            if kinds >= 3:
+                green = point[0] - (point[1] + point[2]) // 4
+                point[:3] = [point[2] + green, green, point[1] + green]
+            out += [0 if number < 0 else 65535 if number > 65535 else number for number in point]
+    return width, height, out
+
+
+def small(kinds, wide, high, e, levels, l, numbers):
+    """What small is to answer: 0, kinds, width, height, numbers."""
+    across = -(-wide // 2 ** e)
+    done = [small_tile(kinds, width, height, levels, l, part)
+            for width, height, part in tile_parts(kinds, wide, high, e, numbers)]
+    out = [0, kinds, sum(tile[0] for tile in done[:across]), sum(tile[1] for tile in done[::across])]
+    for first in range(0, len(done), across):
+        for y in range(done[first][1]):
+            for width, _, part in done[first:first + across]:
+                out += part[y * width * kinds:(y + 1) * width * kinds]
+    return out
+
+
+def with_tile(kinds, wide, high, e, numbers, t, part):
+    """The sheet's numbers with others in one of its tiles."""
+    out, part = list(numbers), list(part)
+    side = 2 ** e
+    across = -(-wide // side)
+    for y in range(high):
+        for x in range(wide):
+            if y // side * across + x // side == t:
+                out[(y * wide + x) * kinds:(y * wide + x + 1) * kinds] = part[:kinds]
+                del part[:kinds]
+    return out
 
 
 def ordinary_sheets():

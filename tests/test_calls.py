@@ -3,7 +3,7 @@
 import unittest
 
 from tests import helper
-from tilewise.sheets import code, head, read, tile
+from tilewise.sheets import code, head, put, read, small, tile
 
 
 def forbidden(self, *args, **kwargs):
@@ -29,8 +29,11 @@ def asked(listed):
         out.append(("code", code(kinds, wide, high, e, levels, listed(numbers))))
         out.append(("read", read(listed(coded))))
         out.append(("head", head(listed(coded))))
-        for t in (0, len(helper.tile_parts(kinds, wide, high, e, numbers)) - 1):
+        out += [("small", small(l, listed(coded))) for l in range(levels + 1)]
+        for t, (width, height, part) in enumerate(helper.tile_parts(kinds, wide, high, e, numbers)):
             out.append(("tile", tile(t, listed(coded))))
+            out.append(("put", put(t, listed(coded), listed(helper.wild(kinds, width, height)))))
+            out.append(("put", put(t, listed(coded), listed(part))))
     return out
 
 
@@ -42,6 +45,9 @@ def refused(listed):
     for call in (read, head):
         out += [(call.__name__, call(listed(wrong))) for wrong in ([], [256], [84, 73, 76, 83, 1], coded[:-5])]
     out.append(("read", read(listed(spoiled))))
+    out += [("small", small(l, listed(wrong))) for l, wrong in ((0, []), (6, coded), (4, coded), (0, spoiled), (1, [-1]))]
+    out += [("put", put(t, listed(wrong), listed(numbers)))
+            for t, wrong, numbers in ((0, coded, [1, 2]), (0, coded, [-1]), (4, coded, [0] * 8), (0, [], [1]), (0, [300], []))]
     out += [("tile", tile(t, listed(wrong))) for t, wrong in ((0, [300]), (0, []), (-1, coded), (4, coded), (0, spoiled))]
     return out
 
@@ -86,6 +92,8 @@ class Calls(unittest.TestCase):
         self.assertEqual(read(coded=coded), [0, 1, 1, 1, 0])
         self.assertEqual(head(coded=coded), [1, 1, 1, 1, 4, 0])
         self.assertEqual(tile(t=0, coded=coded), [0, 0, 0, 1, 1, 0])
+        self.assertEqual(small(l=0, coded=coded), [0, 1, 1, 1, 0])
+        self.assertEqual(put(t=0, coded=coded, numbers=[0]), [18] + coded)
 
 
 if __name__ == "__main__":

@@ -6,6 +6,7 @@ from tilewise.refusals import NotACode
 FIRST_BYTES = (84, 73, 76, 83)
 HEAD_LENGTH = 9
 CRC_LENGTH = 4
+MOST_LEVELS = 5
 ALL_ONES = 0xFFFFFFFF
 CRC_WORD = 0xEDB88320
 
@@ -20,7 +21,7 @@ class Head:
 
     def in_range(self):
         return (1 <= self.kinds <= 4 and 1 <= self.wide <= 256 and 1 <= self.high <= 256
-                and 4 <= self.e <= 8 and 0 <= self.levels <= 5)
+                and 4 <= self.e <= 8 and 0 <= self.levels <= MOST_LEVELS)
 
     def head_bytes(self):
         return list(FIRST_BYTES) + [self.kinds, self.wide - 1, self.high - 1, self.e, self.levels]

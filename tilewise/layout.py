@@ -1,4 +1,6 @@
-"""Where a sheet's tiles lie, and their numbers taken out of it and laid into it."""
+"""Where the tiles of a sheet and of a small sheet lie, and their numbers taken out of it and laid into it."""
+
+from tilewise.halving import half
 
 
 class Place:
@@ -16,6 +18,20 @@ def tile_places(wide, high, e):
         for x in range(0, wide, side):
             places.append(Place(x, y, min(side, wide - x), min(side, high - y)))
     return places
+
+
+def shrunk(n, times):
+    for i in range(times):
+        n = half(n)
+    return n
+
+
+# Left of a tile and above it there are tiles of the full side alone, so its place is a multiple of that, shrunk.
+def small_place(place, e, times):
+    side = shrunk(1 << e, times)
+    width = shrunk(place.width, times)
+    height = shrunk(place.height, times)
+    return Place((place.x >> e) * side, (place.y >> e) * side, width, height)
 
 
 # Where the numbers of each row of a tile begin among the sheet's.

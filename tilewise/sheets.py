@@ -1,10 +1,10 @@
-"""The calls: sheets told in bytes, and read back from them whole or tile by tile."""
+"""The calls: sheets told in bytes, and read back from them whole, tile by tile or small."""
 
-from tilewise.frames import Head, crc_is_right, framed, opened
-from tilewise.layout import lay_in, taken_out
+from tilewise.frames import MOST_LEVELS, Head, crc_is_right, framed, opened
+from tilewise.layout import lay_in, small_place, taken_out
 from tilewise.ranges import check_bytes, numbers_in_range
 from tilewise.refusals import NotACode, OutOfRange
-from tilewise.tiles import tile_code, tile_numbers
+from tilewise.tiles import small_numbers, tile_code, tile_numbers
 
 
 def sheet_fits(asked, numbers):
@@ -88,6 +88,67 @@ def tile_answer(t, coded):
 def tile(t, coded):
     try:
         return tile_answer(t, coded)
+    except OutOfRange:
+        return [-8]
+    except NotACode:
+        return [-2]
+
+
+def small_tile(parts, place, one, times):
+    numbers = numbers_at(parts, place, one)
+    return small_numbers(numbers, parts.head.kinds, place.width, place.height, times)
+
+
+def small_sheet(parts, times):
+    kinds = parts.head.kinds
+    places = parts.head.places()
+    last = small_place(places[-1], parts.head.e, times)
+    wide = last.x + last.width
+    high = last.y + last.height
+    numbers = [0] * (kinds * wide * high)
+    for place, one in zip(places, parts.codes):
+        lay_in(numbers, small_place(place, parts.head.e, times), kinds, wide, small_tile(parts, place, one, times))
+    return [kinds, wide, high] + numbers
+
+
+def small_answer(l, coded):
+    check_bytes(coded)
+    if not 0 <= l <= MOST_LEVELS:
+        raise OutOfRange()
+    parts = opened(coded)
+    if l > parts.head.levels:
+        raise OutOfRange()
+    return [0] + small_sheet(parts, l)
+
+
+def small(l, coded):
+    try:
+        return small_answer(l, coded)
+    except OutOfRange:
+        return [-8]
+    except NotACode:
+        return [-2]
+
+
+def put_answer(t, coded, numbers):
+    check_bytes(coded)
+    if not numbers_in_range(numbers):
+        raise OutOfRange()
+    parts = opened(coded)
+    check_tile(t, parts)
+    kinds = parts.head.kinds
+    place = parts.head.places()[t]
+    if len(numbers) != kinds * place.width * place.height:
+        raise OutOfRange()
+    codes = list(parts.codes)
+    codes[t] = tile_code(numbers, kinds, place.width, place.height, parts.head.levels)
+    fresh = framed(parts.head, codes)
+    return [len(fresh)] + fresh
+
+
+def put(t, coded, numbers):
+    try:
+        return put_answer(t, coded, numbers)
     except OutOfRange:
         return [-8]
     except NotACode:

@@ -1,10 +1,23 @@
-"""A tile's code from its numbers, and its numbers from its code."""
+"""A tile's code from its numbers, its numbers from its code, and the tile made small."""
 
 from tilewise.bands import band_lengths, bands_of, cut_rows, flat, rows_of
 from tilewise.mixing import mixed, unmixed
-from tilewise.ranges import numbers_in_range
+from tilewise.ranges import HIGHEST, numbers_in_range
 from tilewise.refusals import NotACode
 from tilewise.telling import BitReader, BitWriter, hear_band, tell_band
+
+
+def planes_of(numbers, kinds):
+    return [numbers[i::kinds] for i in range(kinds)]
+
+
+# The numbers point by point again, at each point one of each kind.
+def woven(planes):
+    kinds = len(planes)
+    numbers = [0] * (kinds * len(planes[0]))
+    for i, plane in enumerate(planes):
+        numbers[i::kinds] = plane
+    return numbers
 
 
 def plain_code(numbers):
@@ -17,7 +30,7 @@ def plain_code(numbers):
 
 def short_code(numbers, kinds, width, height, levels):
     writer = BitWriter()
-    for plane in mixed([numbers[i::kinds] for i in range(kinds)]):
+    for plane in mixed(planes_of(numbers, kinds)):
         for band in bands_of(cut_rows(plane, width, height), levels):
             tell_band(band, writer)
     return [1] + writer.all_bytes()
@@ -42,11 +55,7 @@ def heard_plane(reader, width, height, levels):
 
 def short_numbers(coded, kinds, width, height, levels):
     reader = BitReader(coded[1:])
-    planes = unmixed([heard_plane(reader, width, height, levels) for i in range(kinds)])
-    numbers = [0] * (kinds * width * height)
-    for i, plane in enumerate(planes):
-        numbers[i::kinds] = plane
-    return numbers
+    return woven(unmixed([heard_plane(reader, width, height, levels) for i in range(kinds)]))
 
 
 def heard_numbers(coded, kinds, width, height, levels):
@@ -65,3 +74,19 @@ def tile_numbers(coded, kinds, width, height, levels):
     if tile_code(numbers, kinds, width, height, levels) != coded:
         raise NotACode()
     return numbers
+
+
+# Halved again from its numbers: so a tile told by its numbers themselves is made small as any other is.
+def small_plane(plane, width, height, times):
+    return bands_of(cut_rows(plane, width, height), times)[0]
+
+
+# Means lie beyond the numbers they are of where these jump, so what is beyond the range is held at its ends.
+def held(number):
+    return min(max(number, 0), HIGHEST)
+
+
+def small_numbers(numbers, kinds, width, height, times):
+    planes = mixed(planes_of(numbers, kinds))
+    corners = [small_plane(plane, width, height, times) for plane in planes]
+    return [held(number) for number in woven(unmixed(corners))]
