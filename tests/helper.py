@@ -306,6 +306,43 @@ def all_sheets():
         yield from made()
 
 
+# Rows and what they are halved, worked out by hand; behind each how.
+ROWS_BY_HAND = (
+    ([7], [7]),  # one stays
+    ([10, 12], [11, 2]),  # 12 - 20/2 = 2; 10 + 6/4 = 11
+    ([12, 10], [11, -2]),  # 10 - 24/2 = -2; 12 + -2/4 = 12 - 1
+    ([0, 1], [1, 1]),  # 1 - 0; 0 + 4/4
+    ([1, 0], [1, -1]),  # 0 - 2/2 = -1; 1 + 0/4
+    ([4, 9, 6], [6, 8, 4]),  # 9 - 10/2 = 4; 4 + 10/4 = 6, 6 + 10/4 = 8
+    ([-4, -9, -6], [-6, -8, -4]),  # -9 + 5 = -4; -4 + -6/4 = -4 - 2, -6 - 2
+    ([0, 0, 1], [0, 1, 0]),  # 0 - 1/2 = 0; 0 + 2/4 = 0, 1 + 2/4 = 1
+    ([0, 0, -1], [1, 0, 1]),  # 0 - -1/2 = 1; 0 + 4/4 = 1, -1 + 4/4 = 0
+    ([1, 2, 3, 4], [1, 3, 0, 1]),  # 2 - 4/2 = 0, 4 - 6/2 = 1; 1 + 2/4 = 1, 3 + 3/4 = 3
+    ([8, -3, 5, 2], [4, 2, -9, -3]),  # -3 - 13/2 = -9, 2 - 10/2 = -3; 8 + -16/4 = 4, 5 + -10/4 = 5 - 3
+    ([0, 10, 0, 20, 0], [5, 8, 10, 10, 20]),  # 10, 20; 0 + 22/4 = 5, 32/4 = 8, 42/4 = 10
+    ([-1048576, 1048576], [0, 2097152]),  # 1048576 + 1048576; -1048576 + 4194306/4 = 1048576 - 1048576
+    ([1048576, -1048576], [0, -2097152]),  # -2097152; 1048576 + -4194302/4 = 1048576 - 1048576
+    ([-1048576, 1048576, -1048576], [0, 0, 2097152]),  # as of two, twice
+)
+
+
+def rows():
+    """Rows for halve: by hand, of 1 to 256 numbers, small and large, both ends side by side."""
+    for row, _ in ROWS_BY_HAND:
+        yield list(row)
+    for length in (1, 2, 3, 4, 5, 6, 7, 16, 17, 63, 64, 65, 127, 128, 129, 254, 255, 256):
+        for top in (1, 2, 3, 9, 500, 65535, 1048576):
+            numbers = spread(length, 2 * top, length + top)
+            yield [number - top for number in numbers]
+            yield [number // 2 for number in numbers]
+            yield [-number // 2 for number in numbers]
+        yield [1048576 - 2097152 * (i % 2) for i in range(length)]
+        yield [2097152 * (i % 2) - 1048576 for i in range(length)]
+        yield [1048576 - 2097152 * (i // 2 % 2) for i in range(length)]
+        yield [1048576] * length
+        yield [-1048576] * length
+
+
 # Codes of a sheet of one tile and of a sheet of several, and whether it is of several.
 CODES = ((code(1, 2, 2, 4, 1, [10, 12, 14, 20]), False), (code(3, 33, 18, 4, 2, gentle(3, 33, 18)), True))
 

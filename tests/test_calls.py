@@ -3,7 +3,7 @@
 import unittest
 
 from tests import helper
-from tilewise.sheets import code, head, put, read, small, tile
+from tilewise.sheets import code, halve, head, put, read, small, tile, unlike
 
 
 def forbidden(self, *args, **kwargs):
@@ -34,6 +34,8 @@ def asked(listed):
             out.append(("tile", tile(t, listed(coded))))
             out.append(("put", put(t, listed(coded), listed(helper.wild(kinds, width, height)))))
             out.append(("put", put(t, listed(coded), listed(part))))
+            out.append(("unlike", unlike(listed(coded), listed(put(t, coded, [7] * len(part))[1:]))))
+    out += [("halve", halve(listed(row))) for row in helper.rows()]
     return out
 
 
@@ -48,6 +50,9 @@ def refused(listed):
     out += [("small", small(l, listed(wrong))) for l, wrong in ((0, []), (6, coded), (4, coded), (0, spoiled), (1, [-1]))]
     out += [("put", put(t, listed(wrong), listed(numbers)))
             for t, wrong, numbers in ((0, coded, [1, 2]), (0, coded, [-1]), (4, coded, [0] * 8), (0, [], [1]), (0, [300], []))]
+    out += [("unlike", unlike(listed(one), listed(other)))
+            for one, other in ((coded, []), ([], coded), (coded, spoiled), (coded, [300]), ([-1], []))]
+    out += [("halve", halve(listed(row))) for row in ([], [0] * 257, [1048577], [3, -1048577])]
     out += [("tile", tile(t, listed(wrong))) for t, wrong in ((0, [300]), (0, []), (-1, coded), (4, coded), (0, spoiled))]
     return out
 
@@ -94,6 +99,8 @@ class Calls(unittest.TestCase):
         self.assertEqual(tile(t=0, coded=coded), [0, 0, 0, 1, 1, 0])
         self.assertEqual(small(l=0, coded=coded), [0, 1, 1, 1, 0])
         self.assertEqual(put(t=0, coded=coded, numbers=[0]), [18] + coded)
+        self.assertEqual(unlike(coded=coded, other=coded), [0])
+        self.assertEqual(halve(row=[4, 9, 6]), [0, 6, 8, 4])
 
 
 if __name__ == "__main__":

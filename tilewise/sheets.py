@@ -1,8 +1,9 @@
-"""The calls: sheets told in bytes, and read back from them whole, tile by tile or small."""
+"""The calls: sheets told in bytes, and read back from them whole, tile by tile or small; rows halved."""
 
-from tilewise.frames import MOST_LEVELS, Head, crc_is_right, framed, opened
+from tilewise.frames import HEAD_LENGTH, MOST_LEVELS, Head, crc_is_right, framed, opened
+from tilewise.halving import halve_row
 from tilewise.layout import lay_in, small_place, taken_out
-from tilewise.ranges import check_bytes, numbers_in_range
+from tilewise.ranges import check_bytes, numbers_in_range, row_fits
 from tilewise.refusals import NotACode, OutOfRange
 from tilewise.tiles import small_numbers, tile_code, tile_numbers
 
@@ -153,3 +154,30 @@ def put(t, coded, numbers):
         return [-8]
     except NotACode:
         return [-2]
+
+
+def unlike_answer(coded, other):
+    # Both are looked at for -8 ahead of either for -2.
+    check_bytes(coded)
+    check_bytes(other)
+    codes = opened(coded).codes
+    others = opened(other).codes
+    if coded[:HEAD_LENGTH] != other[:HEAD_LENGTH]:
+        raise NotACode()
+    found = [t for t in range(len(codes)) if codes[t] != others[t]]
+    return [len(found)] + found
+
+
+def unlike(coded, other):
+    try:
+        return unlike_answer(coded, other)
+    except OutOfRange:
+        return [-8]
+    except NotACode:
+        return [-2]
+
+
+def halve(row):
+    if not row_fits(row):
+        return [-8]
+    return [0] + halve_row(row)
