@@ -343,6 +343,18 @@ def rows():
         yield [-1048576] * length
 
 
+def wrong_rows():
+    """Rows that halve and whole refuse: of no number, of too many, with a number out of range."""
+    yield []
+    for length in (257, 258, 300):
+        yield [0] * length
+    for value in (-1048577, 1048577, -2147483648, 2147483647):
+        yield [value]
+        for length in (2, 3, 256):
+            for place in (0, 1, length - 1):
+                yield [5] * place + [value] + [5] * (length - 1 - place)
+
+
 # Codes of a sheet of one tile and of a sheet of several, and whether it is of several.
 CODES = ((code(1, 2, 2, 4, 1, [10, 12, 14, 20]), False), (code(3, 33, 18, 4, 2, gentle(3, 33, 18)), True))
 

@@ -1,7 +1,7 @@
-"""The calls: sheets told in bytes, and read back from them whole, tile by tile or small; rows halved."""
+"""The calls: sheets told in bytes, and read back from them whole, tile by tile or small; rows halved and made whole."""
 
 from tilewise.frames import HEAD_LENGTH, MOST_LEVELS, Head, crc_is_right, framed, opened
-from tilewise.halving import halve_row
+from tilewise.halving import halve_row, whole_row
 from tilewise.layout import lay_in, small_place, taken_out
 from tilewise.ranges import check_bytes, numbers_in_range, row_fits
 from tilewise.refusals import NotACode, OutOfRange
@@ -181,3 +181,9 @@ def halve(row):
     if not row_fits(row):
         return [-8]
     return [0] + halve_row(row)
+
+
+def whole(row):
+    if not row_fits(row):
+        return [-8]
+    return [0] + whole_row(row)
